@@ -1,0 +1,1 @@
+"""Words carved on a ring, and read back from their last letters."""
