@@ -4,69 +4,13 @@ import inspect
 import itertools
 import unittest
 
+from sample_words import LONG_WORDS, TOLD_OVER, comes_ahead, letter_of_turn, short_words
+
 from ringcarve.turns import ranking, turn_from
-
-
-def short_words(letters="abc", longest=6):
-    for length in range(longest + 1):
-        for chosen in itertools.product(letters, repeat=length):
-            yield "".join(chosen)
-
-
-def mixed_word(length, letters="abcdefghijklmnopqrstuvwxyz"):
-    """A word without a plain pattern, the same at each run."""
-    state, chosen = 12345, []
-    for step in range(length):
-        state = (state * 1103515245 + 12345) % 2147483648
-        chosen.append(letters[(state >> 16) % len(letters)])
-    return "".join(chosen)
-
-
-def golden_word(length):
-    """A word whose turns agree over long stretches, though no two are the same."""
-    one, other = "a", "ab"
-    while len(other) < length:
-        one, other = other, other + one
-    return other[:length]
-
-
-def letter_of_turn(word, place, step):
-    return word[(place + step) % len(word)]
-
-
-def comes_ahead(word, one, other):
-    """Points 3 and 4 letter by letter: does place one stand ahead of place other?"""
-    for step in range(len(word)):
-        mine = letter_of_turn(word, one, step)
-        yours = letter_of_turn(word, other, step)
-        if mine != yours:
-            return ord(mine) < ord(yours)
-    return one < other
 
 
 def first_difference(one, other):
     return next(k for k in range(len(one)) if one[k] != other[k])
-
-
-LONG_WORDS = {
-    "mixed": mixed_word(1000),
-    "mixed, two letters": mixed_word(1000, "ab"),
-    "mixed, beyond the bound": mixed_word(1237),
-    "golden": golden_word(1000),
-    "golden, 987": golden_word(987),
-    "golden, beyond the bound": golden_word(1597),
-    "one letter": "z" * 1000,
-    "one letter, beyond the bound": "q" * 1100,
-    "last letter differs": "a" * 999 + "b",
-    "first letter differs": "b" + "a" * 1100,
-    "nearly told many times over": "ab" * 500 + "a",
-}
-
-# Each piece is no shorter one told many times over.
-TOLD_OVER = (
-    ("a", 1000), ("ta", 500), ("abb", 333), ("aab", 400), ("noon", 250), ("ring", 300),
-    ("abcdefghij", 100), (mixed_word(500), 2), (mixed_word(125), 8), (golden_word(89), 13),
-)
 
 
 class TestTurn(unittest.TestCase):
